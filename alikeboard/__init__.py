@@ -1,0 +1,1 @@
+"""Alikeboard: terms told alike, unlike, at most and above, and what follows."""
