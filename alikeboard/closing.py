@@ -5,23 +5,31 @@ from alikeboard.facts import need_fact
 
 def stand(facts):
     """Tell whether facts of a list can stand together."""
-    return Closing(facts).can_stand()
+    return Closing(facts).clash() is None
 
 
 class Closing:
     """The terms that stand in some facts, parts too, and which of them must be alike where the facts stand.
 
-    Each term has a place, counted from 0. Terms that must be alike have one head: the place of one of them.
+    Each term has a place, counted from 0, behind those of its parts. Terms that must be alike have one head: the place
+    of one of them. Some terms may be asked for, which are looked at like those of the facts.
     - works: for each place the term's name and the places of its parts;
     - heads: for each place its head;
-    - told: the facts as (word, place, place).
+    - told: the facts as (word, place, place);
+    - many: how many terms stand in the facts: those of the first places, the others only in what is asked for;
+    - asked: the places of the terms that are asked for;
+    - merges: rows (lost, kept, first, second, cause), one for each time that two heads were made one: the head that was
+      lost, the one that was kept, and the places of two terms that had them and are alike by the cause. A cause has the
+      place of the fact that tells so; or that of an at most and those of the facts by which one goes from its high term
+      up to its low one; or none, where the terms' parts are alike.
     """
 
-    def __init__(self, facts):
+    def __init__(self, facts, asked=()):
         for fact in facts:
             need_fact(fact)
         self.works = []
         self.heads = []
+        self.merges = []
         # For each head: the places that have it, and the places of the terms of which a part has it.
         self._members = []
         self._users = []
@@ -31,22 +39,35 @@ class Closing:
         self.told = []
         for word, first, second in facts:
             self.told.append((word, self._place(first), self._place(second)))
+        self.many = len(self.works)
+        self.asked = [self._place(term) for term in asked]
         self._close()
 
-    def can_stand(self):
-        """Tell whether the facts can stand together."""
-        for word, first, second in self.told:
+    def clash(self):
+        """Tell the place of a fact that can't stand, as its terms must be alike, or None where there is none."""
+        for at, (word, first, second) in enumerate(self.told):
             if word in ("unlike", "over") and self.heads[first] == self.heads[second]:
-                return False
-        return True
+                return at
+        return None
+
+    def terms(self):
+        """Tell the term of each place."""
+        found = []
+        for name, parts in self.works:
+            found.append((name, *[found[part] for part in parts]))
+        return found
 
     def above(self):
-        """Tell for each head the other heads that facts tell it to be at most, or to be below."""
+        """Tell for each head rows of another one that it is at most, or below, and the place of the fact for that."""
         rows = {head: [] for head in sorted(set(self.heads))}
-        for low, high in self._at_mosts():
+        for low, high, at in self._at_mosts():
             if self.heads[low] != self.heads[high]:
-                rows[self.heads[low]].append(self.heads[high])
+                rows[self.heads[low]].append((self.heads[high], at))
         return rows
+
+    def way(self, first, second):
+        """Tell the places of facts by which one goes up from one term to another, or None where one does not."""
+        return _way(self.above(), self.heads[first], self.heads[second])
 
     def _place(self, term):
         """Tell the place of a term; give it one, behind those of its parts, where it has none."""
@@ -64,65 +85,73 @@ class Closing:
         return self._made[work]
 
     def _close(self):
-        for word, first, second in self.told:
+        for at, (word, first, second) in enumerate(self.told):
             if word == "alike":
-                self._make_alike(first, second)
-        pairs = self._rings()
+                self._make_alike(first, second, (at,))
+        rings = self._rings()
         # What is made alike may close further rings, so this ends only where there is none left.
-        while pairs:
-            for first, second in pairs:
-                self._make_alike(first, second)
-            pairs = self._rings()
+        while rings:
+            for low, high, cause in rings:
+                self._make_alike(low, high, cause)
+            rings = self._rings()
 
     def _at_mosts(self):
-        """Tell the pairs of places of which the first term is at most the second one."""
-        pairs = []
-        for word, first, second in self.told:
+        """Tell rows (low, high, at): by the fact at a place the one term is at most the other one."""
+        rows = []
+        for at, (word, first, second) in enumerate(self.told):
             if word == "most":
-                pairs.append((first, second))
+                rows.append((first, second, at))
             # Above is the other one's at most, too. If it stands in a ring, its terms are made alike, which it forbids.
             if word == "over":
-                pairs.append((second, first))
-        return pairs
+                rows.append((second, first, at))
+        return rows
 
     def _rings(self):
-        """Tell the at mosts that stand in a ring, but none whose terms are alike already."""
+        """Tell the at mosts that stand in a ring, each with its cause, but none whose terms are alike already."""
         above = self.above()
-        heads = self.heads
-        pairs = [(low, high) for low, high in self._at_mosts() if heads[low] != heads[high]]
-        return [(low, high) for low, high in pairs if _leads(above, heads[high], heads[low])]
+        rings = []
+        for low, high, at in self._at_mosts():
+            if self.heads[low] != self.heads[high]:
+                back = _way(above, self.heads[high], self.heads[low])
+                if back is not None:
+                    rings.append((low, high, (at, *back)))
+        return rings
 
-    def _make_alike(self, first, second):
-        waiting = [(first, second)]
+    def _make_alike(self, first, second, cause):
+        """Make two terms alike, and all whose parts are alike by that."""
+        waiting = [(first, second, cause)]
         while waiting:
-            one, other = waiting.pop()
+            one, other, reason = waiting.pop()
             if self.heads[one] != self.heads[other]:
-                waiting.extend(self._made_one(self.heads[one], self.heads[other]))
+                waiting.extend(self._made_one(one, other, reason))
 
-    def _made_one(self, kept, lost):
-        """Make one head of two; tell the pairs of terms whose parts are alike by that."""
+    def _made_one(self, first, second, cause):
+        """Make the heads of two terms one; tell the terms whose parts are alike by that, in rows with their cause."""
+        kept = self.heads[first]
+        lost = self.heads[second]
         if len(self._members[kept]) < len(self._members[lost]):
             kept, lost = lost, kept
+        self.merges.append((lost, kept, first, second, cause))
         for place in self._members[lost]:
             self.heads[place] = kept
         self._members[kept].extend(list(self._members[lost]))
-        pairs = []
+        rows = []
         for place in self._users[lost]:
             name, parts = self.works[place]
             work = (name, tuple([self.heads[part] for part in parts]))
-            pairs.append((self._made.setdefault(work, place), place))
+            rows.append((self._made.setdefault(work, place), place, ()))
         self._users[kept].extend(list(self._users[lost]))
-        return pairs
+        return rows
 
 
-def _leads(above, start, goal):
-    """Tell whether one goes up from a head to another one."""
-    seen = {start}
+def _way(above, start, goal):
+    """Tell the places of facts by which one goes up from one head to another, or None where one does not."""
+    ways = {start: ()}
     waiting = [start]
     while waiting:
-        head = waiting.pop()
-        for higher in above[head]:
-            if higher not in seen:
-                seen.add(higher)
+        head = waiting.pop(0)
+        for higher, at in above[head]:
+            if higher not in ways:
+                ways[higher] = (*ways[head], at)
                 waiting.append(higher)
-    return goal in seen
+    return ways.get(goal)

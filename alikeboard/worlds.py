@@ -49,7 +49,7 @@ class World:
 def world_of(facts):
     """Tell a world in which all facts of a list stand; refuse with NoFact where there is none."""
     closing = Closing(facts)
-    if not closing.can_stand():
+    if closing.clash() is not None:
         raise NoFact("the facts can't stand together")
     numbers = _numbered(closing.above())
     worths = {}
@@ -64,7 +64,7 @@ def _numbered(above):
     """Tell a number of its own for each head, lower than those of all heads above it."""
     below = {head: 0 for head in above}
     for head in above:
-        for higher in above[head]:
+        for higher, _ in above[head]:
             below[higher] += 1
     ready = [head for head in above if below[head] == 0]
     numbers = {}
@@ -72,7 +72,7 @@ def _numbered(above):
     while ready:
         head = ready.pop()
         numbers[head] = len(numbers)
-        for higher in above[head]:
+        for higher, _ in above[head]:
             below[higher] -= 1
             if below[higher] == 0:
                 ready.append(higher)

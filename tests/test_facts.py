@@ -12,7 +12,8 @@ A, B = ("a",), ("b",)
 F = ("f", A, ("g", B))
 SIGNS = {"alike": "=", "unlike": "!=", "most": "<=", "over": ">"}
 OPPOSITES = {"alike": "unlike", "unlike": "alike", "most": "over", "over": "most"}
-TEXTS = {"a": A, "b": B, "f(a,g(b))": F, "abcdef": ("abcdef",), "f(f,f(a),f(a,b))": ("f", ("f",), ("f", A), ("f", A, B))}
+TEXTS = {"a": A, "b": B, "f(a,g(b))": F, "abcdef": ("abcdef",),
+         "f(f,f(a),f(a,b))": ("f", ("f",), ("f", A), ("f", A, B))}
 
 DEEP = A
 for _ in range(40):

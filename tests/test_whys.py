@@ -7,6 +7,7 @@ import unittest
 from alikeboard import whys
 from alikeboard.errors import Full
 from alikeboard.whys import fewest, why, why_not
+from checking import Checking
 from reckoning import WORDS, against, can_stand, fact_lists, facts_of, term_of
 from test_facts import each_bad
 
@@ -44,18 +45,7 @@ def fact_of(text):
     return facts_of(text)[0]
 
 
-class Case(unittest.TestCase):
-    def check_row(self, facts, row, fact):
-        """A rising row that can't stand together with a fact, but can where any place is left out."""
-        self.assertIs(type(row), list)
-        for place in row:
-            self.assertIs(type(place), int)
-            self.assertIn(place, range(len(facts)))
-        self.assertEqual(row, sorted(set(row)))
-        self.assertFalse(can_stand([facts[place] for place in row] + [fact]))
-        for left_out in row:
-            self.assertTrue(can_stand([facts[place] for place in row if place != left_out] + [fact]))
-
+class Case(Checking):
     def check_asked(self, facts, fact):
         """Look at what all three tell of a fact and some facts; tell whether it follows, can't stand or neither."""
         before = copy.deepcopy(facts)

@@ -7,6 +7,7 @@ import unittest
 from alikeboard import worlds
 from alikeboard.errors import NoFact
 from alikeboard.worlds import World, world_of
+from checking import Checking, reckoned
 from reckoning import WORDS, can_stand, fact_lists, facts_of, stands, term_of, terms_in, tower
 from test_facts import BAD_TERMS, each_bad
 
@@ -37,32 +38,7 @@ LISTS = (
 )
 
 
-def reckoned(rows, term):
-    """What a term is worth by rows, and 0 for all else."""
-    numbers = tuple(reckoned(rows, part) for part in term[1:])
-    for name, told, number in rows:
-        if (name, told) == (term[0], numbers):
-            return number
-    return 0
-
-
-def unlike_rows(rows):
-    return [(name, numbers) for name, numbers, _ in rows]
-
-
-class Case(unittest.TestCase):
-    def check_rows(self, size, rows):
-        self.assertIs(type(rows), list)
-        self.assertEqual(rows, sorted(rows))
-        self.assertEqual(len(rows), len(set(unlike_rows(rows))))
-        for row in rows:
-            self.assertEqual((type(row), len(row)), (tuple, 3))
-            name, numbers, number = row
-            self.assertEqual((type(name), type(numbers), type(number)), (str, tuple, int))
-            for each in (number, *numbers):
-                self.assertIs(type(each), int)
-                self.assertIn(each, range(size))
-
+class Case(Checking):
     def check_answers(self, told, size, rows, terms):
         worths = {}
         for term in terms:
@@ -79,17 +55,8 @@ class Case(unittest.TestCase):
         told = world_of(facts)
         self.assertIs(type(told), World)
         self.assertEqual(facts, before)
-        terms = terms_in(facts)
-        size, rows = told.size(), told.rows()
-        self.assertIs(type(size), int)
-        self.assertLessEqual(1, size)
-        self.assertLessEqual(size, max(1, len(terms)))
-        self.check_rows(size, rows)
-        for word, first, second in facts:
-            self.assertIs(told.holds((word, first, second)), True)
-            self.assertTrue(stands(word, told.worth(first), told.worth(second)))
-            self.assertTrue(stands(word, reckoned(rows, first), reckoned(rows, second)))
-        self.check_answers(told, size, rows, (terms + OUTSIDE)[:16])
+        self.check_world(facts, told)
+        self.check_answers(told, told.size(), told.rows(), (terms_in(facts) + OUTSIDE)[:16])
         return told
 
 
@@ -138,12 +105,7 @@ class Told(Case):
             if can_stand(facts):
                 self.check(facts)
             else:
-                self.refused(facts)
-
-    def refused(self, facts):
-        with self.assertRaises(ValueError) as caught:
-            world_of(facts)
-        self.assertIs(type(caught.exception), NoFact)
+                self.refused(NoFact, world_of, facts)
 
     def test_facts_that_cannot_stand_together_are_refused(self):
         for texts in (("a != a",), ("a > a",), ("a = b", "a != b"), ("a <= b", "a > b"), ("a > b", "b > a"),
@@ -152,7 +114,7 @@ class Told(Case):
                       ("f(f(a)) = a", "f(f(f(a))) = a", "f(a) != a")):
             for order in itertools.permutations(texts):
                 with self.subTest(order):
-                    self.refused(facts_of(*order))
+                    self.refused(NoFact, world_of, facts_of(*order))
 
     def test_forty_long_facts(self):
         core = ("h", tower(12), tower(12, ("b",)), tower(10, ("c",)))
